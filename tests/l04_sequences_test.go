@@ -143,17 +143,9 @@ func slowBlowDown(n int64, terms []int64) []int64 {
 	return down
 }
 
-// slowGaps counts the gaps of the semigroup of a branch, whose generators chapter 5 defines.
+// slowGaps counts the gaps of the semigroup of a branch (chapter 5).
 func slowGaps(terms []int64) int64 {
-	e := slowDivisors(terms)
-	generators := []int64{terms[0]}
-	for i := 1; i < len(terms); i++ {
-		v := terms[i]
-		if i > 1 {
-			v = e[i-2]/e[i-1]*generators[i-1] + terms[i] - terms[i-1]
-		}
-		generators = append(generators, v)
-	}
+	generators := slowGenerators(terms)
 	least := generators[0]
 	values := []bool{true}
 	var gaps int64
