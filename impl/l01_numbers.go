@@ -247,16 +247,12 @@ func FractionText(f Fraction) (string, int64) {
 // ParseFraction returns the fraction with a text, whose numbers have at most nine digits, and
 // ErrNone. Errors: ErrSyntax if there is none. (ErrInvalid and ErrRange are not returned.)
 func ParseFraction(text string) (Fraction, int64) {
-	rest, negative := strings.CutPrefix(text, "-")
-	head, tail, divided := strings.Cut(rest, "/")
-	top, ok := readDigits(head)
+	head, tail, divided := strings.Cut(text, "/")
+	top, ok := readSigned(head)
 	if !ok {
 		return Fraction{}, ErrSyntax
 	}
 	f := Fraction{top, 1}
-	if negative {
-		f.Top = -top
-	}
 	if divided {
 		if f.Bottom, ok = readDigits(tail); !ok {
 			return Fraction{}, ErrSyntax
@@ -267,6 +263,17 @@ func ParseFraction(text string) (Fraction, int64) {
 		return Fraction{}, ErrSyntax
 	}
 	return f, ErrNone
+}
+
+// readSigned returns the number that one to nine decimal digits, with - in front of them or not, make,
+// and whether s is such digits.
+func readSigned(s string) (int64, bool) {
+	digits, negative := strings.CutPrefix(s, "-")
+	n, ok := readDigits(digits)
+	if negative {
+		n = -n
+	}
+	return n, ok
 }
 
 // readDigits returns the number that one to nine decimal digits make, and whether s is such digits.
